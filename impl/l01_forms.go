@@ -335,6 +335,15 @@ func (s termSum) add(m Monomial, factor int64) {
 	s[m] = numberOf(s[m] + factor)
 }
 
+func (s termSum) isZero() bool {
+	for _, factor := range s {
+		if factor != 0 {
+			return false
+		}
+	}
+	return true
+}
+
 // form returns the sum as a form, and ErrNone, or ErrLimit if it is none.
 func (s termSum) form() (Form, int64) {
 	var f Form
