@@ -128,7 +128,7 @@ func AddForms(degrees []int64, f Form, g Form) (Form, int64) {
 	if !IsForm(degrees, f) || !IsForm(degrees, g) {
 		return Form{}, ErrInvalid
 	}
-	terms := mergeTerms(f.Terms, g.Terms)
+	terms := mergeTerms(f.Terms, g.Terms, compareTerms, addTerms)
 	if len(terms) > MaxTerms {
 		return Form{}, ErrLimit
 	}
@@ -307,17 +307,30 @@ func productOf(degrees []int64, m Monomial, k Monomial) (Monomial, int64) {
 	return product, sign
 }
 
-// mergeTerms adds two lists of terms in order.
-func mergeTerms(f []Term, g []Term) []Term {
-	sum := make([]Term, 0, len(f)+len(g))
+// compareTerms is negative if the monomial of s comes ahead of that of t.
+func compareTerms(s Term, t Term) int {
+	return compareMonomials(s.Monomial, t.Monomial)
+}
+
+// addTerms returns the sum of two terms with the same monomial, and whether it is not 0.
+func addTerms(s Term, t Term) (Term, bool) {
+	s.Factor = numberOf(s.Factor + t.Factor)
+	return s, s.Factor != 0
+}
+
+// mergeTerms adds two lists of terms, each in the order of compare. Terms that compare as 0 are added
+// by plus, which also tells whether their sum stays in the list.
+func mergeTerms[T any](f []T, g []T, compare func(T, T) int, plus func(T, T) (T, bool)) []T {
+	sum := make([]T, 0, len(f)+len(g))
 	for len(f) > 0 && len(g) > 0 {
+		order := compare(f[0], g[0])
 		switch {
-		case f[0].Monomial == g[0].Monomial:
-			if factor := numberOf(f[0].Factor + g[0].Factor); factor != 0 {
-				sum = append(sum, Term{f[0].Monomial, factor})
+		case order == 0:
+			if t, stays := plus(f[0], g[0]); stays {
+				sum = append(sum, t)
 			}
 			f, g = f[1:], g[1:]
-		case compareMonomials(f[0].Monomial, g[0].Monomial) < 0:
+		case order < 0:
 			sum = append(sum, f[0])
 			f = f[1:]
 		default:
@@ -356,9 +369,7 @@ func (s termSum) form() (Form, int64) {
 		}
 		f.Terms = append(f.Terms, Term{m, factor})
 	}
-	slices.SortFunc(f.Terms, func(s Term, t Term) int {
-		return compareMonomials(s.Monomial, t.Monomial)
-	})
+	slices.SortFunc(f.Terms, compareTerms)
 	return f, ErrNone
 }
 
