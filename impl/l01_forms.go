@@ -128,7 +128,7 @@ func AddForms(degrees []int64, f Form, g Form) (Form, int64) {
 	if !IsForm(degrees, f) || !IsForm(degrees, g) {
 		return Form{}, ErrInvalid
 	}
-	terms := mergeTerms(f.Terms, g.Terms, compareTerms, addTerms)
+	terms := mergeTerms(f.Terms, g.Terms)
 	if len(terms) > MaxTerms {
 		return Form{}, ErrLimit
 	}
@@ -230,14 +230,23 @@ func numberOf(x int64) int64 {
 	return (x%FieldPrime + FieldPrime) % FieldPrime
 }
 
+func timesNumbers(x int64, y int64) int64 {
+	return numberOf(x * y)
+}
+
 // powerOfNumber returns the power n of a number x of the field, for n of at least 0.
 func powerOfNumber(x int64, n int64) int64 {
-	power := int64(1)
+	return powerOf(1, x, n, timesNumbers)
+}
+
+// powerOf returns the power n of x, for n of at least 0, the power 0 being one.
+func powerOf[T any](one T, x T, n int64, times func(T, T) T) T {
+	power := one
 	for ; n > 0; n /= 2 {
 		if n%2 == 1 {
-			power = numberOf(power * x)
+			power = times(power, x)
 		}
-		x = numberOf(x * x)
+		x = times(x, x)
 	}
 	return power
 }
@@ -312,22 +321,15 @@ func compareTerms(s Term, t Term) int {
 	return compareMonomials(s.Monomial, t.Monomial)
 }
 
-// addTerms returns the sum of two terms with the same monomial, and whether it is not 0.
-func addTerms(s Term, t Term) (Term, bool) {
-	s.Factor = numberOf(s.Factor + t.Factor)
-	return s, s.Factor != 0
-}
-
-// mergeTerms adds two lists of terms, each in the order of compare. Terms that compare as 0 are added
-// by plus, which also tells whether their sum stays in the list.
-func mergeTerms[T any](f []T, g []T, compare func(T, T) int, plus func(T, T) (T, bool)) []T {
-	sum := make([]T, 0, len(f)+len(g))
+// mergeTerms adds two lists of terms in order.
+func mergeTerms(f []Term, g []Term) []Term {
+	sum := make([]Term, 0, len(f)+len(g))
 	for len(f) > 0 && len(g) > 0 {
-		order := compare(f[0], g[0])
+		order := compareTerms(f[0], g[0])
 		switch {
 		case order == 0:
-			if t, stays := plus(f[0], g[0]); stays {
-				sum = append(sum, t)
+			if factor := numberOf(f[0].Factor + g[0].Factor); factor != 0 {
+				sum = append(sum, Term{f[0].Monomial, factor})
 			}
 			f, g = f[1:], g[1:]
 		case order < 0:

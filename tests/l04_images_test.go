@@ -122,15 +122,14 @@ func TestGreatImages(t *testing.T) {
 	})
 }
 
-// TestImagesThatTakeTooMuchWork has an image that is 0 in the end only, behind more terms than any
-// memory holds. The function returns nevertheless.
-func TestImagesThatTakeTooMuchWork(t *testing.T) {
+// TestImagesThatTakeMuchWork has an image that is 0 in the end only, behind more terms than any memory
+// holds.
+func TestImagesThatTakeMuchWork(t *testing.T) {
 	sums := []string{sumOfEight, sumOfEight, "1*a+2*b+3*c+4*d+5*e+6*f+7*g+8*h", "1*a+4*b+9*c+1*d", "1*e+1*f+2*g+3*h", "0", "0", "0"}
-	x := mapCase{eight, eight, sums}.mapping(t)
-	f := parse(t, x.a.Degrees, "1*a20c20d20e20+10006*b20c20d20e20")
-	if got, code := impl.ApplyMap(x.a, x.b, x.m, f); len(got.Terms) != 0 || code != impl.ErrNone && code != impl.ErrLimit {
-		t.Errorf("ApplyMap = %v, %d", got, code)
-	}
+	checkImages(t, []imageCase{
+		{mapCase{eight, eight, sums}, "1*a20c20d20e20+10006*b20c20d20e20", 0},
+		{mapCase{eight, eight, sums}, "1*a20c20d20e20+10005*b20c20d20e20", -1},
+	})
 }
 
 // TestLimitsOfCompositions has 400 and 401 terms. Exponents are never greater than six.
