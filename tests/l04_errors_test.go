@@ -64,7 +64,13 @@ func callsOfMaps() []mapCall {
 // invalidMappings returns lists that are no maps, and maps with what is no algebra or no form.
 func invalidMappings(t *testing.T) []mapping {
 	t.Helper()
-	list := mappingsOf(t, badMaps())
+	return append(mappingsOf(t, badMaps()), mappingsOfBadParts(t)...)
+}
+
+// mappingsOfBadParts returns lists with what is no algebra or no form.
+func mappingsOfBadParts(t *testing.T) []mapping {
+	t.Helper()
+	var list []mapping
 	sphere, mixed := algebra(t, "2:0;3:1*a2"), algebra(t, "1:0;2:0")
 	for _, bad := range badAlgebras(t) {
 		zeros := make([]impl.Form, len(bad.Degrees))
@@ -255,12 +261,7 @@ func TestAnyMap(t *testing.T) {
 	r := rand.New(rand.NewSource(89))
 	codes := map[int64]int{}
 	for range 2000 {
-		x := mapping{anyAlgebra(t, r), anyAlgebra(t, r), nil}
-		x.m = make([]impl.Form, len(x.a.Degrees)+r.Intn(8)/7)
-		for i := range x.m {
-			m := anyMonomial(r)
-			x.m[i] = []impl.Form{{}, {}, {}, {}, {}, {}, {}, formOf(term(r.Int63n(3)-1, m[:]...))}[r.Intn(8)]
-		}
+		x := anyMapping(t, r, anyAlgebra(t, r), anyAlgebra(t, r))
 		n := []int64{r.Int63n(25) - 2, math.MinInt64, math.MaxInt64}[min(2, r.Intn(10)/8)]
 		for _, c := range callsOfMaps() {
 			zero, code := c.call(x, n)

@@ -14,7 +14,10 @@ type imageCase struct {
 	want int
 }
 
-func checkImages(t *testing.T, cases []imageCase) {
+// imageCall is ApplyMap or ImageOfForm.
+type imageCall func(a, b impl.Algebra, m []impl.Form, f impl.Form) (impl.Form, int64)
+
+func (call imageCall) check(t *testing.T, cases []imageCase) {
 	t.Helper()
 	for _, c := range cases {
 		x := c.mapping(t)
@@ -22,11 +25,16 @@ func checkImages(t *testing.T, cases []imageCase) {
 		if c.want < 0 {
 			want = impl.ErrLimit
 		}
-		got, code := impl.ApplyMap(x.a, x.b, x.m, parse(t, x.a.Degrees, c.f))
+		got, code := call(x.a, x.b, x.m, parse(t, x.a.Degrees, c.f))
 		if code != want || len(got.Terms) != max(c.want, 0) || !impl.IsForm(x.b.Degrees, got) {
-			t.Errorf("ApplyMap(%v, %q) has %d terms, code %d", c.mapCase, c.f, len(got.Terms), code)
+			t.Errorf("the image of %q by %v has %d terms, code %d", c.f, c.mapCase, len(got.Terms), code)
 		}
 	}
+}
+
+func checkImages(t *testing.T, cases []imageCase) {
+	t.Helper()
+	imageCall(impl.ApplyMap).check(t, cases)
 }
 
 // TestLimitOfTermsOfImages meets MaxTerms, and exceeds it by one.

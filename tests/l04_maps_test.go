@@ -38,19 +38,12 @@ func TestIsMapOfInvalidParts(t *testing.T) {
 	}
 }
 
-// TestIsMapByWords changes single factors of maps, which leaves some of them maps.
+// TestIsMapByWords has maps and others.
 func TestIsMapByWords(t *testing.T) {
 	r := rand.New(rand.NewSource(80))
 	good, bad := 0, 0
 	for range 3000 {
-		x := randomMap(t, r, 60)
-		for _, f := range x.m {
-			for i := range f.Terms {
-				if r.Intn(6) == 0 {
-					f.Terms[i].Factor = 1 + r.Int63n(impl.FieldPrime-1)
-				}
-			}
-		}
+		x := changedMap(t, r)
 		want := x.isMapByWords()
 		if got := impl.IsMap(x.a, x.b, x.m); got != want {
 			t.Fatalf("IsMap(%v) = %v", x, got)

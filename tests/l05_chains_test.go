@@ -7,50 +7,6 @@ import (
 	"loop.example/g01219/impl"
 )
 
-// otherAssignments returns assignments that do not keep the differential.
-func otherAssignments() []mapCase {
-	const sphere, plane, heisenberg = "2:0;3:1*a2", "2:0;5:1*a3", "1:0;1:0;1:1*ab"
-	return []mapCase{
-		{sphere, sphere, []string{"1*a", "2*b"}},
-		{sphere, sphere, []string{"2*a", "2*b"}},
-		{sphere, sphere, []string{"1*a", "0"}},
-		{sphere, sphere, []string{"0", "1*b"}},
-		{sphere, "2:0", []string{"1*a", "0"}},
-		{"3:0", sphere, []string{"1*b"}},
-		{plane, sphere, []string{"1*a", "10006*ab"}},
-		{heisenberg, heisenberg, []string{"1*b", "1*a", "1*c"}},
-		{heisenberg, heisenberg, []string{"1*a", "1*c", "0"}},
-		{"2:0;2:0;3:1*a2+1*b2", "2:0", []string{"1*a", "1*a", "0"}},
-		{"1:1*b;2:0", "1:0;2:1*ab", []string{"1*a", "1*b"}},
-		{"1:1*b;2:0", heisenberg, []string{"1*c", "2*ab"}},
-	}
-}
-
-// noAssignments returns lists of forms that are no assignments: too short or too long, not homogeneous, or of
-// another degree.
-func noAssignments() []mapCase {
-	const sphere = "2:0;3:1*a2"
-	return []mapCase{
-		{"", "", []string{"0"}},
-		{"", sphere, []string{"1*a"}},
-		{"2:0", "", nil},
-		{"2:0", "", []string{"1*1"}},
-		{sphere, sphere, nil},
-		{sphere, sphere, []string{"1*a"}},
-		{sphere, sphere, []string{"0"}},
-		{sphere, sphere, []string{"1*a", "1*b", "0"}},
-		{sphere, sphere, []string{"1*a+1*1", "1*b"}},
-		{sphere, sphere, []string{"1*a2+1*a", "1*b"}},
-		{sphere, sphere, []string{"1*a", "1*a+1*b"}},
-		{sphere, sphere, []string{"1*1", "0"}},
-		{sphere, sphere, []string{"0", "1*1"}},
-		{sphere, sphere, []string{"1*a2", "1*b"}},
-		{sphere, sphere, []string{"1*b", "1*a"}},
-		{sphere, sphere, []string{"0", "1*a"}},
-		{sphere, sphere, []string{"0", "1*ab"}},
-	}
-}
-
 func checkChain(t *testing.T, x mapping, want bool) {
 	t.Helper()
 	if got, code := impl.IsChainMap(x.a, x.b, x.m); got != want || code != impl.ErrNone {
@@ -67,19 +23,12 @@ func TestIsChainMap(t *testing.T) {
 	}
 }
 
-// TestIsChainMapByWords changes single factors of maps, which leaves some of them maps.
+// TestIsChainMapByWords has maps and others.
 func TestIsChainMapByWords(t *testing.T) {
 	r := rand.New(rand.NewSource(104))
 	good, bad := 0, 0
 	for range 2000 {
-		x := randomMap(t, r, 60)
-		for _, f := range x.m {
-			for i := range f.Terms {
-				if r.Intn(6) == 0 {
-					f.Terms[i].Factor = 1 + r.Int63n(impl.FieldPrime-1)
-				}
-			}
-		}
+		x := changedMap(t, r)
 		want := x.isMapByWords()
 		checkChain(t, x, want)
 		if !want {
@@ -240,11 +189,7 @@ func TestImageOfFormByWords(t *testing.T) {
 func TestLimitsOfImagesOfForms(t *testing.T) {
 	pairs := mapCase{"2:0;2:0;2:0;3:1*a2", "2:0;2:0;2:0;2:0;2:0;3:0", []string{"1*a+1*b", "1*c+2*d", "1*e", "1*f"}}
 	same := heavyMapToEight([]int64{2, 2, 2, 2, 2}, "1*a", "1*a", "1*b", "1*c", "1*h")
-	for _, c := range []struct {
-		mapCase
-		f    string
-		want int
-	}{
+	imageCall(impl.ImageOfForm).check(t, []imageCase{
 		{pairs, "1*a19b19", 400},
 		{pairs, "1*a20b18+1*c", 400},
 		{pairs, "1*a19b19+1*d", -1},
@@ -256,17 +201,7 @@ func TestLimitsOfImagesOfForms(t *testing.T) {
 		{same, "1*a20b+10006*c+1*f20g20+10006*f20h20", -1},
 		{same, "1*a19b+10006*c+1*f20g20+10006*f20h20", 2},
 		{same, "1*f20g20+10005*f20h20", -1},
-	} {
-		x := c.mapping(t)
-		want := int64(impl.ErrNone)
-		if c.want < 0 {
-			want = impl.ErrLimit
-		}
-		got, code := impl.ImageOfForm(x.a, x.b, x.m, parse(t, x.a.Degrees, c.f))
-		if code != want || len(got.Terms) != max(c.want, 0) {
-			t.Errorf("ImageOfForm(%v, %q) has %d terms, code %d", c.mapCase, c.f, len(got.Terms), code)
-		}
-	}
+	})
 }
 
 func TestIsModel(t *testing.T) {

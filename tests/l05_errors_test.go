@@ -74,16 +74,7 @@ func TestInvalidModels(t *testing.T) {
 }
 
 func TestInvalidAssignments(t *testing.T) {
-	list := mappingsOf(t, noAssignments())
-	sphere, mixed := algebra(t, "2:0;3:1*a2"), algebra(t, "1:0;2:0")
-	for _, bad := range badAlgebras(t) {
-		zeros := make([]impl.Form, len(bad.Degrees))
-		list = append(list, mapping{bad, bad, zeros}, mapping{bad, impl.Algebra{}, zeros}, mapping{impl.Algebra{}, bad, nil})
-		list = append(list, mapping{bad, sphere, zeros}, mapping{sphere, bad, make([]impl.Form, 2)})
-	}
-	for _, f := range badForms() {
-		list = append(list, mapping{mixed, mixed, []impl.Form{f, {}}}, mapping{mixed, mixed, []impl.Form{{}, f}})
-	}
+	list := append(mappingsOf(t, noAssignments()), mappingsOfBadParts(t)...)
 	for _, x := range list {
 		for _, c := range callsOfAssignments() {
 			for _, n := range []int64{2, 10, 1, 11, math.MinInt64, math.MaxInt64} {
@@ -281,15 +272,11 @@ func TestAnyModel(t *testing.T) {
 	r := rand.New(rand.NewSource(107))
 	codes := map[int64]int{}
 	for range 2000 {
-		x := mapping{anyAlgebra(t, r), anyAlgebra(t, r), nil}
+		a := anyAlgebra(t, r)
 		if r.Intn(10) == 0 {
-			x.a = algebra(t, []string{eight, lie(1, 4)}[r.Intn(2)])
+			a = algebra(t, []string{eight, lie(1, 4)}[r.Intn(2)])
 		}
-		x.m = make([]impl.Form, len(x.a.Degrees)+r.Intn(8)/7)
-		for i := range x.m {
-			m := anyMonomial(r)
-			x.m[i] = []impl.Form{{}, {}, {}, {}, {}, {}, {}, formOf(term(r.Int63n(3)-1, m[:]...))}[r.Intn(8)]
-		}
+		x := anyMapping(t, r, a, anyAlgebra(t, r))
 		n := []int64{r.Int63n(11) + 1, math.MinInt64, math.MaxInt64}[min(2, r.Intn(10)/8)]
 		for _, c := range callsOfModels() {
 			zero, code := c.call(x.a, n)

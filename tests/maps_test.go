@@ -87,9 +87,28 @@ func goodMaps() []mapCase {
 	}
 }
 
-// badMaps returns lists of forms that are no maps: too short or too long, not homogeneous, of another
-// degree, or not keeping the differential.
-func badMaps() []mapCase {
+// otherAssignments returns assignments that do not keep the differential.
+func otherAssignments() []mapCase {
+	const sphere, plane, heisenberg = "2:0;3:1*a2", "2:0;5:1*a3", "1:0;1:0;1:1*ab"
+	return []mapCase{
+		{sphere, sphere, []string{"1*a", "2*b"}},
+		{sphere, sphere, []string{"2*a", "2*b"}},
+		{sphere, sphere, []string{"1*a", "0"}},
+		{sphere, sphere, []string{"0", "1*b"}},
+		{sphere, "2:0", []string{"1*a", "0"}},
+		{"3:0", sphere, []string{"1*b"}},
+		{plane, sphere, []string{"1*a", "10006*ab"}},
+		{heisenberg, heisenberg, []string{"1*b", "1*a", "1*c"}},
+		{heisenberg, heisenberg, []string{"1*a", "1*c", "0"}},
+		{"2:0;2:0;3:1*a2+1*b2", "2:0", []string{"1*a", "1*a", "0"}},
+		{"1:1*b;2:0", "1:0;2:1*ab", []string{"1*a", "1*b"}},
+		{"1:1*b;2:0", heisenberg, []string{"1*c", "2*ab"}},
+	}
+}
+
+// noAssignments returns lists of forms that are no assignments: too short or too long, not homogeneous, or of
+// another degree.
+func noAssignments() []mapCase {
 	const sphere = "2:0;3:1*a2"
 	return []mapCase{
 		{"", "", []string{"0"}},
@@ -109,19 +128,12 @@ func badMaps() []mapCase {
 		{sphere, sphere, []string{"1*b", "1*a"}},
 		{sphere, sphere, []string{"0", "1*a"}},
 		{sphere, sphere, []string{"0", "1*ab"}},
-		{sphere, sphere, []string{"1*a", "2*b"}},
-		{sphere, sphere, []string{"2*a", "2*b"}},
-		{sphere, sphere, []string{"1*a", "0"}},
-		{sphere, sphere, []string{"0", "1*b"}},
-		{sphere, "2:0", []string{"1*a", "0"}},
-		{"3:0", sphere, []string{"1*b"}},
-		{"2:0;5:1*a3", sphere, []string{"1*a", "10006*ab"}},
-		{"1:0;1:0;1:1*ab", "1:0;1:0;1:1*ab", []string{"1*b", "1*a", "1*c"}},
-		{"1:0;1:0;1:1*ab", "1:0;1:0;1:1*ab", []string{"1*a", "1*c", "0"}},
-		{"2:0;2:0;3:1*a2+1*b2", "2:0", []string{"1*a", "1*a", "0"}},
-		{"1:1*b;2:0", "1:0;2:1*ab", []string{"1*a", "1*b"}},
-		{"1:1*b;2:0", "1:0;1:0;1:1*ab", []string{"1*c", "2*ab"}},
 	}
+}
+
+// badMaps returns lists of forms that are no maps.
+func badMaps() []mapCase {
+	return append(noAssignments(), otherAssignments()...)
 }
 
 // productByWords returns the product of two forms, without asking for limits.
@@ -215,6 +227,32 @@ func randomMap(t *testing.T, r *rand.Rand, most int) mapping {
 			return x
 		}
 	}
+}
+
+// changedMap returns a map of which single factors have been changed, which leaves some of them maps.
+func changedMap(t *testing.T, r *rand.Rand) mapping {
+	t.Helper()
+	x := randomMap(t, r, 60)
+	for _, f := range x.m {
+		for i := range f.Terms {
+			if r.Intn(6) == 0 {
+				f.Terms[i].Factor = 1 + r.Int63n(impl.FieldPrime-1)
+			}
+		}
+	}
+	return x
+}
+
+// anyMapping returns a list of forms of b, mostly as many as a has generators, which is often no map; a and b
+// are often no algebras.
+func anyMapping(t *testing.T, r *rand.Rand, a, b impl.Algebra) mapping {
+	t.Helper()
+	x := mapping{a, b, make([]impl.Form, len(a.Degrees)+r.Intn(8)/7)}
+	for i := range x.m {
+		m := anyMonomial(r)
+		x.m[i] = []impl.Form{{}, {}, {}, {}, {}, {}, {}, formOf(term(r.Int63n(3)-1, m[:]...))}[r.Intn(8)]
+	}
+	return x
 }
 
 // isZeroMap reports whether all forms of a map are 0.
