@@ -359,20 +359,31 @@ func (s termSum) isZero() bool {
 	return true
 }
 
+// terms returns the terms of the sum in order, without those that have cancelled.
+func (s termSum) terms() []Term {
+	var terms []Term
+	for m, factor := range s {
+		if factor != 0 {
+			terms = append(terms, Term{m, factor})
+		}
+	}
+	slices.SortFunc(terms, compareTerms)
+	return terms
+}
+
 // form returns the sum as a form, and ErrNone, or ErrLimit if it is none.
 func (s termSum) form() (Form, int64) {
-	var f Form
+	count := 0
 	for m, factor := range s {
 		if factor == 0 {
 			continue
 		}
-		if !withinPowers(m) || len(f.Terms) == MaxTerms {
+		if !withinPowers(m) || count == MaxTerms {
 			return Form{}, ErrLimit
 		}
-		f.Terms = append(f.Terms, Term{m, factor})
+		count++
 	}
-	slices.SortFunc(f.Terms, compareTerms)
-	return f, ErrNone
+	return Form{Terms: s.terms()}, ErrNone
 }
 
 // countMonomials returns, for each i up to the number of generators and each degree up to n, how

@@ -8,28 +8,33 @@ import (
 	"loop.example/g01219/impl"
 )
 
-// checkModelMemory makes a model twice. Filling one slice of the first one must change neither the argument, nor
-// the other slices, nor the second one.
+// checkFormsWithAlgebraMemory calls a function that returns an algebra with the forms of a map twice. Filling one
+// slice of the first result must change neither the argument, nor the other slices, nor the second result.
+func checkFormsWithAlgebraMemory(t *testing.T, name string, same func() bool, call func() (impl.Algebra, []impl.Form, int64)) {
+	t.Helper()
+	first, m, _ := call()
+	second, k, _ := call()
+	want := impl.Algebra{Degrees: slices.Clone(second.Degrees), Images: cloneForms(second.Images)}
+	wantForms := cloneForms(k)
+	// The forms of both lists are those of one result.
+	checkForms(t, name, slices.Concat(first.Images, m))
+	overwrite(first.Images, formOf(term(98, 8)))
+	overwrite(m, formOf(term(97, 7)))
+	if slices.ContainsFunc(first.Images, func(f impl.Form) bool { return f.Terms[0].Factor != 98 }) {
+		t.Fatalf("both lists of forms of %s share memory", name)
+	}
+	overwrite(first.Degrees, 99)
+	if !same() {
+		t.Fatalf("%s changes its argument, or shares memory with it", name)
+	}
+	if !sameAlgebras(second, want) || !sameFormLists(k, wantForms) {
+		t.Fatalf("%s shares memory between its results", name)
+	}
+}
+
 func checkModelMemory(t *testing.T, a impl.Algebra, same func() bool, n int64) {
 	t.Helper()
-	model, images, _ := impl.MinimalModel(a, n)
-	second, secondImages, _ := impl.MinimalModel(a, n)
-	want := impl.Algebra{Degrees: slices.Clone(second.Degrees), Images: cloneForms(second.Images)}
-	wantImages := cloneForms(secondImages)
-	// The forms of both lists are those of one result.
-	checkForms(t, "MinimalModel", slices.Concat(model.Images, images))
-	overwrite(model.Images, formOf(term(98, 8)))
-	overwrite(images, formOf(term(97, 7)))
-	if slices.ContainsFunc(model.Images, func(f impl.Form) bool { return f.Terms[0].Factor != 98 }) {
-		t.Fatalf("both lists of forms of a model share memory")
-	}
-	overwrite(model.Degrees, 99)
-	if !same() {
-		t.Fatalf("MinimalModel changes its argument, or shares memory with it")
-	}
-	if !sameAlgebras(second, want) || !sameFormLists(secondImages, wantImages) {
-		t.Fatalf("MinimalModel shares memory between its results")
-	}
+	checkFormsWithAlgebraMemory(t, "MinimalModel", same, func() (impl.Algebra, []impl.Form, int64) { return impl.MinimalModel(a, n) })
 }
 
 func TestModelsKeepArguments(t *testing.T) {
